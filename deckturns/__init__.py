@@ -1,0 +1,1 @@
+"""Cards shuffled in known ways."""

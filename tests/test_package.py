@@ -1,0 +1,103 @@
+"""What the document and the language rules ask of the package as a whole."""
+
+import ast
+import builtins
+import contextlib
+import inspect
+import io
+import pathlib
+import re
+import sys
+import unittest
+from unittest import mock
+
+import deckturns
+from deckturns import shuffles
+
+FOLDER = pathlib.Path(deckturns.__file__).parent
+FILES = sorted(FOLDER.glob("*.py"))
+
+PYTHONS_OWN_NAMES = set("""
+    len range enumerate zip min max sum abs sorted reversed int str bool list tuple dict set frozenset isinstance
+    ord repr any all divmod Exception ValueError TypeError KeyError IndexError LookupError ZeroDivisionError
+    ArithmeticError OverflowError RuntimeError NotImplementedError AttributeError StopIteration
+""".split())
+
+WORDS_NOT_USED = re.compile(
+    r"\b(type|typing|typing_extensions|enum|Enum|IntEnum|StrEnum|Flag|IntFlag|Generic|Protocol|ABC|ABCMeta"
+    r"|namedtuple|NamedTuple|TypedDict|TYPE_CHECKING|abstractmethod)\b|dataclass|overload|contextmanager")
+
+FORMS_NOT_USED = (
+    ast.With, ast.Match, ast.Delete, ast.Global, ast.Nonlocal, ast.Assert, ast.Yield, ast.YieldFrom, ast.Await,
+    ast.AsyncFor, ast.AsyncWith, ast.AsyncFunctionDef, ast.GeneratorExp, ast.SetComp, ast.DictComp, ast.NamedExpr,
+    ast.Starred, ast.Div)
+
+
+def nodes(path):
+    return list(ast.walk(ast.parse(path.read_text(encoding="utf-8"))))
+
+
+class Interface(unittest.TestCase):
+    def test_names_and_arguments(self):
+        self.assertEqual(list(inspect.signature(shuffles.perfect).parameters), ["inwards", "deck"])
+        self.assertEqual(list(inspect.signature(shuffles.order).parameters), ["inwards", "n"])
+
+    def test_arguments_by_name(self):
+        self.assertEqual(shuffles.perfect(inwards=1, deck=[0, 1, 2, 3]), [0, 2, 0, 3, 1])
+        self.assertEqual(shuffles.order(inwards=1, n=4), [4])
+
+
+class NothingButAnswers(unittest.TestCase):
+    def test_nothing_is_imported(self):
+        for path in FILES:
+            for node in nodes(path):
+                if isinstance(node, ast.Import):
+                    self.fail(f"{path.name}: line {node.lineno} imports")
+                if isinstance(node, ast.ImportFrom):
+                    self.assertTrue(node.module.startswith("deckturns."), f"{path.name}: line {node.lineno}")
+
+    def test_no_name_of_pythons_own_beyond_the_rules(self):
+        for path in FILES:
+            for node in nodes(path):
+                if isinstance(node, ast.Name) and hasattr(builtins, node.id):
+                    self.assertIn(node.id, PYTHONS_OWN_NAMES, f"{path.name}: line {node.lineno}")
+
+    def test_nothing_is_printed_or_read(self):
+        printed = io.StringIO()
+        unread = mock.Mock(spec=[])
+        with contextlib.redirect_stdout(printed), contextlib.redirect_stderr(printed):
+            with mock.patch.object(sys, "stdin", unread):
+                for inwards in (0, 1):
+                    shuffles.perfect(inwards, list(range(52)))
+                    shuffles.order(inwards, 200)
+        self.assertEqual(printed.getvalue(), "")
+
+
+class Rules(unittest.TestCase):
+    def test_files(self):
+        names = {path.name for path in FOLDER.iterdir() if path.name != "__pycache__"}
+        self.assertEqual(names, {path.name for path in FILES})
+        self.assertLessEqual({"__init__.py", "shuffles.py"}, names)
+
+    def test_signs_and_sizes(self):
+        for path in FILES:
+            text = path.read_bytes().decode("utf-8")
+            self.assertRegex(text, r"\A[ -~\n]*\Z", path.name)
+            lines = text.splitlines()
+            self.assertLessEqual(len(lines), 400, path.name)
+            self.assertLessEqual(max(len(line) for line in lines), 120, path.name)
+            for node in nodes(path):
+                if isinstance(node, ast.FunctionDef):
+                    self.assertLessEqual(node.end_lineno - node.lineno + 1, 40, node.name)
+
+    def test_words_and_forms_not_used(self):
+        for path in FILES:
+            self.assertNotRegex(path.read_text(encoding="utf-8"), WORDS_NOT_USED, path.name)
+            for node in nodes(path):
+                self.assertNotIsInstance(node, FORMS_NOT_USED, path.name)
+                if isinstance(node, ast.Constant):
+                    self.assertNotIsInstance(node.value, (float, complex, bytes), path.name)
+
+
+if __name__ == "__main__":
+    unittest.main()
