@@ -32,3 +32,30 @@ def order(inwards, n):
         deck = shuffled(inwards, deck)
         often = often + 1
     return [often]
+
+
+def bring(n, place):
+    """How many perfect shuffles bring the top card of n to that place, then they: 1 is in, 0 is out."""
+    # How many cards there are makes no difference: till the last shuffle the card is in the upper half,
+    # where a shuffle doubles its place, and an in shuffle adds one.
+    bits = []
+    rest = place
+    while rest > 0:
+        bits.append(rest % 2)
+        rest = rest // 2
+    bits.reverse()
+    return [len(bits)] + bits
+
+
+def counted(n, step):
+    """0, then n new cards in the order in which they go when each step-th of a ring goes."""
+    ring = list(range(n))
+    gone = []
+    start = 0
+    for left in range(n, 0, -1):
+        # A step may be far longer than the ring: whole rounds of it change nothing.
+        place = (start + step - 1) % left
+        gone.append(ring.pop(place))
+        # The card behind the gone one has moved up to its place; behind the last one comes the first.
+        start = place
+    return [0] + gone

@@ -41,10 +41,14 @@ class Interface(unittest.TestCase):
     def test_names_and_arguments(self):
         self.assertEqual(list(inspect.signature(shuffles.perfect).parameters), ["inwards", "deck"])
         self.assertEqual(list(inspect.signature(shuffles.order).parameters), ["inwards", "n"])
+        self.assertEqual(list(inspect.signature(shuffles.bring).parameters), ["n", "place"])
+        self.assertEqual(list(inspect.signature(shuffles.counted).parameters), ["n", "step"])
 
     def test_arguments_by_name(self):
         self.assertEqual(shuffles.perfect(inwards=1, deck=[0, 1, 2, 3]), [0, 2, 0, 3, 1])
         self.assertEqual(shuffles.order(inwards=1, n=4), [4])
+        self.assertEqual(shuffles.bring(n=8, place=6), [3, 1, 1, 0])
+        self.assertEqual(shuffles.counted(n=3, step=2), [0, 1, 0, 2])
 
 
 class NothingButAnswers(unittest.TestCase):
@@ -70,6 +74,8 @@ class NothingButAnswers(unittest.TestCase):
                 for inwards in (0, 1):
                     shuffles.perfect(inwards, list(range(52)))
                     shuffles.order(inwards, 200)
+                shuffles.bring(65536, 65535)
+                shuffles.counted(52, 2147483647)
         self.assertEqual(printed.getvalue(), "")
 
 
