@@ -59,3 +59,23 @@ def counted(n, step):
         # The card behind the gone one has moved up to its place; behind the last one comes the first.
         start = place
     return [0] + gone
+
+
+def marked(deck, marks):
+    """0, then the deck after a shuffle by marks."""
+    # In order, the marks tell of each card of the deck which packet it is cut into.
+    tops = {}
+    for place, mark in enumerate(sorted(marks)):
+        tops.setdefault(mark, place)
+    cards = []
+    for mark in marks:
+        cards.append(deck[tops[mark]])
+        tops[mark] = tops[mark] + 1
+    return [0] + cards
+
+
+def put_in_order(deck, marks):
+    """0, then the cards in the order of the marks at their places, those of like marks as they stand."""
+    # Places of like marks stay as they stand, for Python's sorted keeps them so.
+    places = sorted(range(len(deck)), key=lambda place: marks[place])
+    return [0] + [deck[place] for place in places]

@@ -43,12 +43,16 @@ class Interface(unittest.TestCase):
         self.assertEqual(list(inspect.signature(shuffles.order).parameters), ["inwards", "n"])
         self.assertEqual(list(inspect.signature(shuffles.bring).parameters), ["n", "place"])
         self.assertEqual(list(inspect.signature(shuffles.counted).parameters), ["n", "step"])
+        self.assertEqual(list(inspect.signature(shuffles.marked).parameters), ["deck", "marks"])
+        self.assertEqual(list(inspect.signature(shuffles.put_in_order).parameters), ["deck", "marks"])
 
     def test_arguments_by_name(self):
         self.assertEqual(shuffles.perfect(inwards=1, deck=[0, 1, 2, 3]), [0, 2, 0, 3, 1])
         self.assertEqual(shuffles.order(inwards=1, n=4), [4])
         self.assertEqual(shuffles.bring(n=8, place=6), [3, 1, 1, 0])
         self.assertEqual(shuffles.counted(n=3, step=2), [0, 1, 0, 2])
+        self.assertEqual(shuffles.marked(deck=[0, 1, 2], marks=[1, 0, 0]), [0, 2, 0, 1])
+        self.assertEqual(shuffles.put_in_order(deck=[0, 1, 2], marks=[1, 0, 0]), [0, 1, 2, 0])
 
 
 class NothingButAnswers(unittest.TestCase):
@@ -76,6 +80,8 @@ class NothingButAnswers(unittest.TestCase):
                     shuffles.order(inwards, 200)
                 shuffles.bring(65536, 65535)
                 shuffles.counted(52, 2147483647)
+                shuffles.marked(list(range(52)), [255, 0] * 26)
+                shuffles.put_in_order(list(range(52)), [255, 0] * 26)
         self.assertEqual(printed.getvalue(), "")
 
 
