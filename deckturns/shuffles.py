@@ -79,3 +79,29 @@ def put_in_order(deck, marks):
     # Places of like marks stay as they stand, for Python's sorted keeps them so.
     places = sorted(range(len(deck)), key=lambda place: marks[place])
     return [0] + [deck[place] for place in places]
+
+
+def rising(deck):
+    """How many rising rows the deck has: the cards of which the one with the number below is not ahead of them."""
+    ahead = {}
+    rows = 0
+    for card in deck:
+        if card - 1 not in ahead:
+            rows = rows + 1
+        ahead[card] = True
+    return [rows]
+
+
+def ways(packets, deck):
+    """In how many ways marks below packets make the deck of new cards, modulo 1000000007."""
+    # From card to card, the marks at their places never fall, and where a new row begins they must rise.
+    # With these rises taken away (one less than there are rows), any n numbers that never fall will do:
+    # they are as many as the choices of n things out of packets + n - rows.
+    n = len(deck)
+    rows = rising(deck)[0]
+    things = packets + n - rows
+    choices = 1
+    for k in range(n):
+        # This division comes out even; after a modulo it wouldn't, so the modulo waits till the end.
+        choices = choices * (things - k) // (k + 1)
+    return [choices % 1000000007]

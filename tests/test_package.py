@@ -45,6 +45,8 @@ class Interface(unittest.TestCase):
         self.assertEqual(list(inspect.signature(shuffles.counted).parameters), ["n", "step"])
         self.assertEqual(list(inspect.signature(shuffles.marked).parameters), ["deck", "marks"])
         self.assertEqual(list(inspect.signature(shuffles.put_in_order).parameters), ["deck", "marks"])
+        self.assertEqual(list(inspect.signature(shuffles.rising).parameters), ["deck"])
+        self.assertEqual(list(inspect.signature(shuffles.ways).parameters), ["packets", "deck"])
 
     def test_arguments_by_name(self):
         self.assertEqual(shuffles.perfect(inwards=1, deck=[0, 1, 2, 3]), [0, 2, 0, 3, 1])
@@ -53,6 +55,8 @@ class Interface(unittest.TestCase):
         self.assertEqual(shuffles.counted(n=3, step=2), [0, 1, 0, 2])
         self.assertEqual(shuffles.marked(deck=[0, 1, 2], marks=[1, 0, 0]), [0, 2, 0, 1])
         self.assertEqual(shuffles.put_in_order(deck=[0, 1, 2], marks=[1, 0, 0]), [0, 1, 2, 0])
+        self.assertEqual(shuffles.rising(deck=[2, 0, 1]), [2])
+        self.assertEqual(shuffles.ways(packets=3, deck=[1, 0]), [3])
 
 
 class NothingButAnswers(unittest.TestCase):
@@ -82,6 +86,8 @@ class NothingButAnswers(unittest.TestCase):
                 shuffles.counted(52, 2147483647)
                 shuffles.marked(list(range(52)), [255, 0] * 26)
                 shuffles.put_in_order(list(range(52)), [255, 0] * 26)
+                shuffles.rising(list(range(52)))
+                shuffles.ways(1000000, list(range(52)))
         self.assertEqual(printed.getvalue(), "")
 
 
