@@ -105,3 +105,21 @@ def ways(packets, deck):
         # This division comes out even; after a modulo it wouldn't, so the modulo waits till the end.
         choices = choices * (things - k) // (k + 1)
     return [choices % 1000000007]
+
+
+def gilbreath(deck):
+    """1 if the deck comes of new cards when some top cards are laid off and shuffled once with the rest, else 0."""
+    # The laid-off cards come falling, the rest rising, both from where the deck was parted: so the cards
+    # that have come are always a row of numbers without a gap, and each next one lengthens it at an end.
+    if len(deck) == 0:
+        return [1]
+    lowest = deck[0]
+    highest = deck[0]
+    for card in deck[1:]:
+        if card == lowest - 1:
+            lowest = card
+        elif card == highest + 1:
+            highest = card
+        else:
+            return [0]
+    return [1]

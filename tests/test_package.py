@@ -47,6 +47,7 @@ class Interface(unittest.TestCase):
         self.assertEqual(list(inspect.signature(shuffles.put_in_order).parameters), ["deck", "marks"])
         self.assertEqual(list(inspect.signature(shuffles.rising).parameters), ["deck"])
         self.assertEqual(list(inspect.signature(shuffles.ways).parameters), ["packets", "deck"])
+        self.assertEqual(list(inspect.signature(shuffles.gilbreath).parameters), ["deck"])
 
     def test_arguments_by_name(self):
         self.assertEqual(shuffles.perfect(inwards=1, deck=[0, 1, 2, 3]), [0, 2, 0, 3, 1])
@@ -57,6 +58,7 @@ class Interface(unittest.TestCase):
         self.assertEqual(shuffles.put_in_order(deck=[0, 1, 2], marks=[1, 0, 0]), [0, 1, 2, 0])
         self.assertEqual(shuffles.rising(deck=[2, 0, 1]), [2])
         self.assertEqual(shuffles.ways(packets=3, deck=[1, 0]), [3])
+        self.assertEqual(shuffles.gilbreath(deck=[1, 2, 0]), [1])
 
 
 class NothingButAnswers(unittest.TestCase):
@@ -88,6 +90,7 @@ class NothingButAnswers(unittest.TestCase):
                 shuffles.put_in_order(list(range(52)), [255, 0] * 26)
                 shuffles.rising(list(range(52)))
                 shuffles.ways(1000000, list(range(52)))
+                shuffles.gilbreath(list(range(52)))
         self.assertEqual(printed.getvalue(), "")
 
 
