@@ -63,7 +63,8 @@ def counted(n, step):
 
 def marked(deck, marks):
     """0, then the deck after a shuffle by marks."""
-    # In order, the marks tell of each card of the deck which packet it is cut into.
+    # Put in order, the marks tell which packet each card of the deck is cut into, so the first place of a mark
+    # is where its packet's top card lies.
     tops = {}
     for place, mark in enumerate(sorted(marks)):
         tops.setdefault(mark, place)

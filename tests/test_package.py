@@ -23,6 +23,12 @@ PYTHONS_OWN_NAMES = set("""
     ArithmeticError OverflowError RuntimeError NotImplementedError AttributeError StopIteration
 """.split())
 
+METHODS = set("""
+    append clear copy count endswith extend find get index insert isalnum isalpha isdigit islower isspace isupper
+    items join keys ljust lower lstrip partition pop remove replace reverse rfind rjust rpartition rsplit rstrip
+    setdefault split splitlines startswith strip update upper values zfill bit_length
+""".split())
+
 WORDS_NOT_USED = re.compile(
     r"\b(type|typing|typing_extensions|enum|Enum|IntEnum|StrEnum|Flag|IntFlag|Generic|Protocol|ABC|ABCMeta"
     r"|namedtuple|NamedTuple|TypedDict|TYPE_CHECKING|abstractmethod)\b|dataclass|overload|contextmanager")
@@ -118,6 +124,32 @@ class Rules(unittest.TestCase):
                 self.assertNotIsInstance(node, FORMS_NOT_USED, path.name)
                 if isinstance(node, ast.Constant):
                     self.assertNotIsInstance(node.value, (float, complex, bytes), path.name)
+
+    def test_names_and_methods(self):
+        for path in FILES:
+            for node in nodes(path):
+                if isinstance(node, (ast.FunctionDef, ast.arg, ast.Name)):
+                    name = getattr(node, "name", None) or getattr(node, "arg", None) or node.id
+                    self.assertRegex(name, r"\A[A-Za-z][A-Za-z0-9_]*\Z", path.name)
+                    if not isinstance(getattr(node, "ctx", None), ast.Load):
+                        self.assertFalse(hasattr(builtins, name), f"{path.name}: line {node.lineno} binds {name}")
+                # The package has no class, so every attribute is a method of Python's own values.
+                if isinstance(node, ast.Attribute):
+                    self.assertIn(node.attr, METHODS, f"{path.name}: line {node.lineno}")
+                if isinstance(node, ast.Assign):
+                    self.assertEqual(len(node.targets), 1, f"{path.name}: line {node.lineno}")
+
+
+class Readme(unittest.TestCase):
+    def test_its_examples_hold(self):
+        text = (FOLDER.parent / "README.md").read_text(encoding="utf-8")
+        examples = re.findall(r"^(\w+)(\(.*\)) +# (\[.*\])$", text, re.MULTILINE)
+        self.assertEqual(
+            {name for name, _, _ in examples},
+            {"perfect", "order", "bring", "counted", "marked", "put_in_order", "rising", "ways", "gilbreath"})
+        for name, arguments, answer in examples:
+            values = ast.literal_eval(arguments[:-1] + ",)")
+            self.assertEqual(getattr(shuffles, name)(*values), ast.literal_eval(answer), name + arguments)
 
 
 if __name__ == "__main__":

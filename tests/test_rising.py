@@ -18,13 +18,13 @@ def by_places(deck):
 def by_rows_taken_away(deck):
     """Go through the deck from the top on and take the next number each time: once through for each row."""
     wanted = 0
-    rows = 0
-    while wanted < len(deck):
-        rows += 1
+    for rows in range(len(deck) + 1):
+        if wanted == len(deck):
+            return [rows]
         for card in deck:
             if card == wanted:
                 wanted += 1
-    return [rows]
+    raise ValueError("not a deck")
 
 
 class WrittenAnswers(unittest.TestCase):
